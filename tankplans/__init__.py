@@ -1,0 +1,1 @@
+"""Plans over facts and stores of limited room: see tankplans.house.answers."""
