@@ -1,15 +1,26 @@
 """One house, what has been told of it, and the answers to a list of calls about it."""
 
+from tankplans.acts import Act, state_behind
 from tankplans.fits import act_numbers_fit, act_stores_fit, amounts_fit, fact_count_fits, facts_fit, rooms_fit
+from tankplans.front import front_amounts
 from tankplans.reading import Reader
+from tankplans.ways import best_ways
 
 BEGINS = 0
 ACT = 1
 START = 2
 WISH = 3
+PLAN = 4
+FRONT = 5
+CHECK = 6
+REACH = 7
 
 DONE = 0
 WRONG = -1
+NO_STORE = -2
+NOT_AS_WISHED = -3
+NOT_TO_BE_DONE = -5
+NO_PLAN = -6
 FULL = -7
 
 MOST_ACTS = 8
@@ -17,18 +28,6 @@ MOST_ACTS = 8
 
 class UnknownCall(Exception):
     """A call's number stands for no call of this program."""
-
-
-class Act:
-    """What is told of an act; stores has, for each store, its four numbers."""
-
-    def __init__(self, numbers, stores):
-        self.needed = numbers[0]
-        self.barred = numbers[1]
-        self.brought = numbers[2]
-        self.taken = numbers[3]
-        self.cost = numbers[4]
-        self.stores = stores
 
 
 class House:
@@ -78,6 +77,58 @@ class House:
         self.wished_amounts = amounts
         return DONE
 
+    def start_state(self):
+        return tuple([self.so] + self.amounts)
+
+    def is_as_wished(self, state):
+        if (state[0] & self.wished_facts) != self.wished_facts:
+            return False
+        for amount, least in zip(state[1:], self.wished_amounts):
+            if amount < least:
+                return False
+        return True
+
+    def ways(self):
+        return best_ways(self.start_state(), self.acts, self.rooms)
+
+    def tell_plan(self):
+        plans = [way for state, way in self.ways().items() if self.is_as_wished(state)]
+        if len(plans) == 0:
+            return [NO_PLAN]
+        best = min(plans)
+        return [best[0]] + list(best[2])
+
+    def tell_front(self, store):
+        if store >= len(self.rooms):
+            return [NO_STORE]
+        ends = [(state[1 + store], way[0]) for state, way in self.ways().items() if self.is_as_wished(state)]
+        amounts = front_amounts(ends, self.rooms[store])
+        told = [len(amounts)]
+        for amount, cost in amounts:
+            told.extend([amount, cost])
+        return told
+
+    def state_behind_numbered(self, number, state):
+        if number >= len(self.acts):
+            return None
+        return state_behind(self.acts[number], state, self.rooms)
+
+    def check(self, numbers):
+        state = self.start_state()
+        cost = 0
+        for done, number in enumerate(numbers):
+            behind = self.state_behind_numbered(number, state)
+            if behind is None:
+                return [NOT_TO_BE_DONE, done] + list(state)
+            state = behind
+            cost = cost + self.acts[number].cost
+        if not self.is_as_wished(state):
+            return [NOT_AS_WISHED] + list(state)
+        return [cost] + list(state)
+
+    def count_reached(self):
+        return len(self.ways())
+
 
 def answer_call(house, call):
     if call.number == BEGINS:
@@ -88,6 +139,14 @@ def answer_call(house, call):
         return [house.set_start(call.wholes[0], call.lists[0])]
     if call.number == WISH:
         return [house.set_wish(call.wholes[0], call.lists[0])]
+    if call.number == PLAN:
+        return house.tell_plan()
+    if call.number == FRONT:
+        return house.tell_front(call.wholes[0])
+    if call.number == CHECK:
+        return house.check(call.lists[0])
+    if call.number == REACH:
+        return [house.count_reached()]
     raise UnknownCall("no such call")
 
 

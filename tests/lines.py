@@ -28,6 +28,22 @@ def wish(facts, amounts):
     return [3, 1, facts, 1] + counted(amounts)
 
 
+def plan():
+    return [4, 0, 0]
+
+
+def front(store):
+    return [5, 1, store, 0]
+
+
+def check(acts):
+    return [6, 0, 1] + counted(acts)
+
+
+def reach():
+    return [7, 0, 0]
+
+
 def laid(calls):
     return [number for call in calls for number in call]
 
@@ -47,6 +63,11 @@ def ask(*calls):
     if len(parts) != len(calls):
         raise AssertionError(f"{len(parts)} answers to {len(calls)} calls: {given}")
     return parts
+
+
+def last(*calls):
+    """What the last call answers."""
+    return ask(*calls)[-1]
 
 
 def firsts(*calls):

@@ -1,6 +1,7 @@
 """The package's own files: their form, and that they draw on nothing from outside."""
 
 import ast
+import builtins
 import pathlib
 import re
 import unittest
@@ -20,6 +21,14 @@ WORDS_LEFT_OUT = (
     "NamedTuple TypedDict TYPE_CHECKING abstractmethod register mro elements open input format"
 ).split()
 
+# The methods of Python's own values that the package may call.
+VALUE_METHODS = (
+    "append clear copy count endswith extend find get index insert isalnum isalpha isdigit islower isspace isupper "
+    "items join keys ljust lower lstrip partition pop remove replace reverse rfind rjust rpartition rsplit rstrip "
+    "setdefault split splitlines startswith strip update upper values zfill bit_length"
+).split()
+PYTHONS_OWN = (str, int, list, tuple, dict, set, bytes)
+
 
 def sources():
     return [(path, path.read_text(encoding="utf-8")) for path in sorted(PACKAGE.glob("**/*.py"))]
@@ -37,6 +46,28 @@ def bound_names(tree):
         elif isinstance(node, ast.alias):
             names.add(node.name)
     return names
+
+
+def own_methods():
+    found = set()
+    for path, text in sources():
+        for node in ast.walk(ast.parse(text)):
+            if isinstance(node, ast.ClassDef):
+                found.update(part.name for part in node.body if isinstance(part, ast.FunctionDef))
+    return found - {"__init__"}
+
+
+def own_values():
+    found = set()
+    for path, text in sources():
+        for node in ast.walk(ast.parse(text)):
+            if isinstance(node, ast.Attribute) and isinstance(node.ctx, ast.Store):
+                found.add(node.attr)
+    return found
+
+
+def drawn_from(tree):
+    return [node.module.split(".")[1] for node in ast.walk(tree) if isinstance(node, ast.ImportFrom)]
 
 
 class Form(unittest.TestCase):
@@ -87,9 +118,37 @@ class Form(unittest.TestCase):
             for node in ast.walk(tree):
                 if isinstance(node, ast.Name) and node.id not in known:
                     self.assertIn(node.id, BUILT_INS, (path, node.lineno))
-            for name in known:
-                self.assertNotIn(name, BUILT_INS, path)
-                self.assertFalse(name.startswith("_") and name != "__init__", (path, name))
+            for name in known - {"__init__"}:
+                self.assertFalse(hasattr(builtins, name), (path, name))
+                self.assertFalse(name.startswith("_"), (path, name))
+
+    def test_methods_and_values(self):
+        self.assertEqual(own_methods() & own_values(), set())
+        for name in own_methods() | own_values():
+            for kind in PYTHONS_OWN:
+                self.assertFalse(hasattr(kind, name), (kind, name))
+        for path, text in sources():
+            tree = ast.parse(text)
+            called = [node.func for node in ast.walk(tree) if isinstance(node, ast.Call)]
+            for node in ast.walk(tree):
+                if isinstance(node, ast.Attribute):
+                    known = own_methods().union(VALUE_METHODS) if node in called else own_values()
+                    self.assertIn(node.attr, known, (path, node.lineno))
+
+    def test_no_two_files_draw_from_one_another(self):
+        waiting = {path.stem: drawn_from(ast.parse(text)) for path, text in sources()}
+        while waiting:
+            free = [name for name in waiting if not [other for other in waiting[name] if other in waiting]]
+            self.assertNotEqual(free, [], waiting)
+            for name in free:
+                del waiting[name]
+
+    def test_nothing_is_kept_at_a_files_top(self):
+        for path, text in sources():
+            for node in ast.parse(text).body[1:]:
+                self.assertIsInstance(node, (ast.ImportFrom, ast.FunctionDef, ast.ClassDef, ast.Assign), path)
+                if isinstance(node, ast.Assign):
+                    self.assertIsInstance(ast.literal_eval(node.value), (int, str, tuple), (path, node.lineno))
 
 
 if __name__ == "__main__":

@@ -1,8 +1,8 @@
-"""What a house keeps of what is told; start and wish can be seen here alone so far."""
+"""What a house keeps of what is told, and that what asks alone leaves it so."""
 
 import unittest
 
-from lines import HIGHEST, act, begins, laid, start, wish
+from lines import HIGHEST, act, begins, check, front, laid, plan, reach, start, wish
 from tankplans.house import House, UnknownCall, answer_call, answers
 from tankplans.reading import Reader
 
@@ -83,6 +83,14 @@ class Kept(unittest.TestCase):
         before = seen(house)
         self.assertEqual(tell(house, act([1, 1, 1, 1, 2], [[0, 0, 0, 0], [0, 0, 0, 0]])), [-7])
         self.assertEqual(seen(house), before)
+
+    def test_what_asks_leaves_all_as_it_was(self):
+        house = furnished()
+        tell(house, act([0, 2, 2, 1, 3], [[0, 1, 0, 0], [0, 0, 1, 1]]), act(PLAIN, [[0, 0, 2, 1], [0, 0, 0, 0]]))
+        before = seen(house)
+        for asked in (plan(), front(0), front(1), front(2), check([]), check([2, 2]), check([2, 0, 9]), reach()):
+            tell(house, asked)
+            self.assertEqual(seen(house), before, asked)
 
     def test_the_lists_kept_are_not_shared(self):
         house = House()
